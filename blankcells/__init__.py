@@ -1,0 +1,1 @@
+"""Tables with blank cells, and rules: what blanks cannot be, and what every filling has."""
