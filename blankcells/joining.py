@@ -4,7 +4,7 @@ Marks tell it: for each column a list with a mark for each row, the number of th
 lot. Two cells of a column are joined exactly if they have the same mark.
 """
 
-from blankcells.tables import need_rules, need_table, row_pairs
+from blankcells.tables import is_number, keeps_values, need_rules, need_table, row_pairs
 
 
 def value_marks(table):
@@ -31,29 +31,104 @@ def join_cells(marks, column, row, other):
     marks[column] = [kept if mark == gone else mark for mark in old]
 
 
-def join_by_rule(marks, rule, amount):
-    """Take the possible steps of a rule over that amount of rows; whether one joined anything."""
-    given, then = rule
-    changed = False
+def is_step(rules, amount, thing):
+    """Whether thing is a step of these rules over that amount of rows, possible or not."""
+    if not isinstance(thing, tuple) or len(thing) != 3:
+        return False
+    number, row, other = thing
+    if not is_number(number, 0, len(rules) - 1) or not is_number(row, 0, amount - 1):
+        return False
+    return is_number(other, row + 1, amount - 1)
+
+
+def is_possible(marks, rules, step):
+    """Whether a step is possible."""
+    number, row, other = step
+    return are_joined(marks, rules[number][0], row, other)
+
+
+def take_step(marks, rules, step):
+    """Join what a possible step joins."""
+    number, row, other = step
+    join_cells(marks, rules[number][1], row, other)
+
+
+def take_rule_steps(marks, rules, number, amount):
+    """Take the possible steps of one rule that join anything; these steps."""
+    then = rules[number][1]
+    taken = []
     for row, other in row_pairs(amount):
-        if are_joined(marks, given, row, other) and not are_joined(marks, (then,), row, other):
-            join_cells(marks, then, row, other)
-            changed = True
-    return changed
+        step = (number, row, other)
+        if is_possible(marks, rules, step) and not are_joined(marks, (then,), row, other):
+            take_step(marks, rules, step)
+            taken.append(step)
+    return taken
+
+
+def take_all_steps(marks, rules, amount):
+    """Take possible steps until no other one joins anything; the steps that were taken."""
+    taken = []
+    before = -1
+    # A step may make steps of rules before it possible, so the rules are gone through again.
+    while before != len(taken):
+        before = len(taken)
+        for number in range(len(rules)):
+            taken.extend(take_rule_steps(marks, rules, number, amount))
+    return taken
 
 
 def joined_marks(table, rules):
     """The marks after all possible steps."""
     marks = value_marks(table)
-    amount = len(table[1])
-    changed = True
-    # A step may make steps of rules before it possible, so the rules are gone through again.
-    while changed:
-        changed = False
-        for rule in rules:
-            if join_by_rule(marks, rule, amount):
-                changed = True
+    take_all_steps(marks, rules, len(table[1]))
     return marks
+
+
+def joining_steps(table, rules):
+    """Possible steps, one after another, that join all that can be joined, each of them something."""
+    return take_all_steps(value_marks(table), rules, len(table[1]))
+
+
+def marks_behind(table, rules, thing):
+    """The marks behind steps that are possible one after another; None if thing is not such steps."""
+    if not isinstance(thing, tuple):
+        return None
+    marks = value_marks(table)
+    for step in thing:
+        if not is_step(rules, len(table[1]), step) or not is_possible(marks, rules, step):
+            return None
+        take_step(marks, rules, step)
+    return marks
+
+
+def lot_values(table, marks):
+    """For each column the values of the lots that have one, by their marks."""
+    many, rows = table
+    return [
+        {mark: cells[column] for mark, cells in zip(marks[column], rows) if cells[column] is not None}
+        for column in range(many)
+    ]
+
+
+def known_rows(table, marks):
+    """The rows with the value of its lot in each cell, None where the lot has no value."""
+    many, rows = table
+    values = lot_values(table, marks)
+    return tuple([
+        tuple([values[column].get(marks[column][row]) for column in range(many)])
+        for row in range(len(rows))
+    ])
+
+
+def has_clash(table, marks):
+    """Whether two different values are joined."""
+    # A lot with two different values has only one of them in the known rows.
+    return not keeps_values(table[1], known_rows(table, marks))
+
+
+def has_filling(table, rules):
+    """Whether the table has a filling."""
+    return not has_clash(table, joined_marks(table, rules))
 
 
 def lots_of(marks):

@@ -1,6 +1,6 @@
 """Tables and rules: what they are, and whether rules hold in a full table."""
 
-from blankcells.errors import NoFull, NoMany, NoRule, NoRules, NoTable
+from blankcells.errors import NoFull, NoMany, NoPlace, NoRule, NoRules, NoTable
 
 MOST_COLUMNS = 5
 MOST_ROWS = 8
@@ -12,6 +12,13 @@ def is_number(thing, low, high):
     """Whether thing is an integer from low to high."""
     # Python takes True and False for integers, the document does not.
     return isinstance(thing, int) and not isinstance(thing, bool) and low <= thing <= high
+
+
+def is_number_set(thing, low, high):
+    """Whether thing is a set of integers from low to high, perhaps empty."""
+    if not isinstance(thing, tuple) or not all([is_number(number, low, high) for number in thing]):
+        return False
+    return all([number < behind for number, behind in zip(thing, thing[1:])])
 
 
 def is_many(thing):
@@ -44,11 +51,17 @@ def is_table(thing):
     return isinstance(thing, tuple) and len(thing) == 2 and is_many(thing[0]) and are_rows(thing[0], thing[1])
 
 
+def is_place(table, thing):
+    """Whether thing is a place of the table."""
+    if not isinstance(thing, tuple) or len(thing) != 2:
+        return False
+    row, column = thing
+    return is_number(row, 0, len(table[1]) - 1) and is_column(table[0], column)
+
+
 def are_columns(many, thing):
     """Whether thing is a set of columns, perhaps empty."""
-    if not isinstance(thing, tuple) or not all([is_column(many, column) for column in thing]):
-        return False
-    return all([low < high for low, high in zip(thing, thing[1:])])
+    return is_number_set(thing, 0, many - 1)
 
 
 def is_rule(many, thing):
@@ -61,8 +74,7 @@ def is_rule(many, thing):
 
 def are_rules(many, thing):
     """Whether thing is rules of many columns."""
-    if not is_many(many):
-        raise NoMany()
+    need_many(many)
     return isinstance(thing, tuple) and len(thing) <= MOST_RULES and all([is_rule(many, rule) for rule in thing])
 
 
@@ -72,10 +84,22 @@ def need_table(thing):
         raise NoTable()
 
 
+def need_many(thing):
+    """Raise NoMany for anything but a number of columns."""
+    if not is_many(thing):
+        raise NoMany()
+
+
 def need_rules(many, thing):
     """Raise NoRules for anything but rules of many columns."""
     if not are_rules(many, thing):
         raise NoRules()
+
+
+def need_place(table, thing):
+    """Raise NoPlace for anything but a place of the table."""
+    if not is_place(table, thing):
+        raise NoPlace()
 
 
 def need_full(table):
@@ -92,6 +116,23 @@ def blanks(table):
         for row, cells in enumerate(table[1])
         for column, cell in enumerate(cells)
         if cell is None
+    ])
+
+
+def with_cells(table, cells):
+    """The table with these cells, by their places, in place of its own."""
+    return (table[0], tuple([
+        tuple([cells.get((row, column), cell) for column, cell in enumerate(old)])
+        for row, old in enumerate(table[1])
+    ]))
+
+
+def keeps_values(rows, others):
+    """Whether others, as many rows of the same columns, have each value of the rows in its place."""
+    return all([
+        cell is None or cell == other
+        for cells, other_cells in zip(rows, others)
+        for cell, other in zip(cells, other_cells)
     ])
 
 
@@ -115,12 +156,17 @@ def breaking_pairs(rows, rule):
     ])
 
 
+def hold_in(rows, rules):
+    """Whether all rules hold in full rows."""
+    return all([breaking_pairs(rows, rule) == () for rule in rules])
+
+
 def holds(table, rules):
     """Whether all rules hold in a full table."""
     need_table(table)
     need_rules(table[0], rules)
     need_full(table)
-    return all([breaking_pairs(table[1], rule) == () for rule in rules])
+    return hold_in(table[1], rules)
 
 
 def breaking(table, rule):

@@ -2,6 +2,9 @@
 
 import unittest
 
+from blankcells.errors import NoRules, NoTable
+from tests.samples import ANY_VALUES, SOME_TABLES, WRONG_RULES, WRONG_TABLES
+
 
 class CallCase(unittest.TestCase):
     """Calls whose arguments must stay as they are, and that give the same again."""
@@ -27,3 +30,19 @@ class CallCase(unittest.TestCase):
     def told(self, answer, function, *arguments):
         """A call answers exactly True or exactly False."""
         self.assertIs(self.ask(function, *arguments), answer, repr(arguments)[:200])
+
+    def refuses_tables_then_rules(self, function, *rests):
+        """A call raises NoTable, then NoRules, whatever stands behind the table and the rules."""
+        right = (2, ((1, 2), (None, None)))
+        clash = (2, ((1, 2), (1, 3), (None, 2)))
+        for rest in rests:
+            for table in WRONG_TABLES + ANY_VALUES:
+                self.refused(NoTable, function, table, (((0,), 1),), *rest)
+                self.refused(NoTable, function, table, None, *rest)
+            for table in (right, clash, (2, ())):
+                for rules in ANY_VALUES + SOME_TABLES + [[((0,), 1)], (((0,), 1),) * 9, (((0,), 2),), ((0,), 1)]:
+                    if rules != ():
+                        self.refused(NoRules, function, table, rules, *rest)
+            for many, rule in WRONG_RULES:
+                self.refused(NoRules, function, (many, ((None,) * many, (1,) * many)), (rule,), *rest)
+                self.refused(NoRules, function, (many, ((1,) * many, (2,) * many)), (((), 0), rule), *rest)

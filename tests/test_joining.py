@@ -5,9 +5,9 @@ from itertools import combinations, permutations, product
 
 from blankcells.errors import NoRules, NoTable
 from blankcells.joining import lots
-from blankcells.tables import holds
 from tests.checks import CallCase
 from tests.samples import ANY_VALUES, SOME_TABLES, all_rules, small_rule_tuples
+from tests.trying import fillings_by_trying, small_tables, value_pairs
 
 RULES = (((0,), 1), ((1,), 2))
 TABLE = (3, ((1, 2, None), (1, None, 3), (None, 4, 5)))
@@ -17,11 +17,7 @@ def lots_by_pairs(table, rules):
     """The lots by their definition: the joined pairs of each column, until nothing is added."""
     many, rows = table
     numbers = range(len(rows))
-    joined = {
-        (column, row, other)
-        for column in range(many) for row in numbers for other in numbers
-        if row == other or (rows[row][column] is not None and rows[row][column] == rows[other][column])
-    }
+    joined = value_pairs(table)
     size = -1
     while size != len(joined):
         size = len(joined)
@@ -36,27 +32,6 @@ def lots_by_pairs(table, rules):
         tuple(sorted({tuple(other for other in numbers if (column, row, other) in joined) for row in numbers}))
         for column in range(many)
     )
-
-
-def fillings_by_trying(table, rules, values):
-    """All fillings of a table with these values, by trying each."""
-    many, rows = table
-    places = [(row, column) for row in range(len(rows)) for column in range(many) if rows[row][column] is None]
-    found = []
-    for choice in product(values, repeat=len(places)):
-        cells = [list(row) for row in rows]
-        for (row, column), value in zip(places, choice):
-            cells[row][column] = value
-        full = (many, tuple(tuple(row) for row in cells))
-        if holds(full, rules):
-            found.append(full)
-    return found
-
-
-def small_tables(many, amount, cells):
-    """All tables of that many columns and that amount of rows, with these cells."""
-    for chosen in product(cells, repeat=many * amount):
-        yield (many, tuple(chosen[at * many:(at + 1) * many] for at in range(amount)))
 
 
 class LotsTest(CallCase):

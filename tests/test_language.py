@@ -1,6 +1,7 @@
 """The form of the code, as far as it is easily seen: files, sizes, characters, imports and words."""
 
 import ast
+import builtins
 import re
 import unittest
 from pathlib import Path
@@ -11,6 +12,12 @@ INTERFACE = {
     "tables": {"is_table": ["thing"], "are_rules": ["many", "thing"], "blanks": ["table"], "holds": ["table", "rules"],
                "breaking": ["table", "rule"]},
     "joining": {"lots": ["table", "rules"]},
+    "fillings": {"general": ["table", "rules"], "verdict": ["table", "rules"],
+                 "shows_verdict": ["table", "rules", "thing"], "fillings": ["table", "rules", "values"]},
+    "certain": {"certain": ["table", "rules"], "relation": ["table", "rules", "place", "other"],
+                "choices": ["table", "rules", "place"], "together": ["table", "rules", "place", "other"]},
+    "splits": {"rejoined": ["table", "parts"], "small": ["many", "parts"], "split": ["many", "rules", "parts"],
+               "shows_split": ["many", "rules", "parts", "thing"]},
 }
 BARRED = (
     r"\b(type|typing|typing_extensions|enum|Enum|IntEnum|StrEnum|Flag|IntFlag|Generic|Protocol|ABC|ABCMeta|namedtuple|"
@@ -43,6 +50,19 @@ class LanguageTest(unittest.TestCase):
                     self.assertLessEqual(node.end_lineno - node.lineno + 1, 40, node.name)
                 if isinstance(node, ast.ImportFrom):
                     self.assertEqual((node.level, node.module.split(".")[0]), (0, "blankcells"), path.name)
+
+    def test_names_inside_functions(self):
+        for path in FILES:
+            tree = ast.parse(path.read_text("utf-8"))
+            outside = {name.name for node in tree.body if isinstance(node, ast.ImportFrom) for name in node.names}
+            outside |= {node.name for node in tree.body if isinstance(node, (ast.ClassDef, ast.FunctionDef))}
+            for node in ast.walk(tree):
+                if isinstance(node, ast.arg):
+                    self.assertNotIn(node.arg, outside, path.name)
+                    self.assertFalse(hasattr(builtins, node.arg), (path.name, node.arg))
+                if isinstance(node, ast.Name) and isinstance(node.ctx, ast.Store):
+                    self.assertNotIn(node.id, outside, path.name)
+                    self.assertFalse(hasattr(builtins, node.id), (path.name, node.id))
 
     def test_interface_is_defined_in_its_files(self):
         for name, functions in INTERFACE.items():
