@@ -18,8 +18,8 @@ def filling_marks(table, rules):
     return marks
 
 
-def new_values(table, marks):
-    """The values of the general filling for the lots without a value, by their first places."""
+def new_values(table, marks, avoided):
+    """New values for the lots without a value, by their first places; none of those to be avoided."""
     many, rows = table
     known = known_rows(table, marks)
     # A lot has the number of its first row as its mark.
@@ -29,17 +29,19 @@ def new_values(table, marks):
         for column in range(many)
         if marks[column][row] == row and known[row][column] is None
     ]
-    used = [cell for cells in rows for cell in cells]
-    # There are as many numbers here as cells, so enough of them are left for the lots.
-    unused = [number for number in range(many * len(rows)) if number not in used]
+    used = [cell for cells in rows for cell in cells] + list(avoided)
+    # There are as many numbers here as cells and avoided ones, so enough of them are left for the lots.
+    unused = [number for number in range(many * len(rows) + len(avoided)) if number not in used]
     return dict(zip(firsts, unused))
 
 
-def general_filling(table, marks):
-    """The general filling, for marks after all possible steps that do not join two different values."""
-    many, rows = table
-    values = new_values(table, marks)
-    known = (many, known_rows(table, marks))
+def general_filling(table, marks, avoided=()):
+    """The general filling, or the same without some new values, for the marks after all possible steps.
+
+    The steps do not join two different values.
+    """
+    values = new_values(table, marks, avoided)
+    known = (table[0], known_rows(table, marks))
     return with_cells(known, {
         (row, column): values[(marks[column][row], column)] for row, column in blanks(known)
     })

@@ -7,19 +7,13 @@ from blankcells.certain import certain, choices, relation, together
 from blankcells.errors import NoFilling, NoPlace, NoRules, NoTable
 from blankcells.fillings import general, verdict
 from tests.checks import CallCase
-from tests.samples import ANY_VALUES, SOME_TABLES, small_rule_tuples
+from tests.samples import ANY_VALUES, SOME_TABLES, WRONG_PLACES, small_rule_tuples
 from tests.trying import Walk, all_full, blank_places, enough_values, rules_hold, small_tables
 
 RULES = (((0,), 1), ((1,), 2))
 TABLE = (3, ((1, 2, None), (1, None, 3), (None, 4, 5)))
 CLASH = (2, ((1, 5), (1, 6), (2, 5)))
 BOTH = (((0,), 1), ((1,), 0))
-
-WRONG_PLACES = [
-    (3, 0), (0, 3), (-1, 0), (0, -1), (3, 3), (-3, -3), (0,), (0, 0, 0), [0, 0], (True, 0), (0, True), (False, 0),
-    (0, False), (False, False), ("0", 0), (0, "0"), "00", {0: 0}, 0, None, (None, 0), (0, None), ((0, 0),), ((0,), 0),
-    (0, (0,)), ([0], 0), (0, [0]), (9999999999999, 0), (0, 9999999999999), (0, NoPlace()), (), True,
-]
 
 
 def all_places(table):

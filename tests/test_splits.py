@@ -7,60 +7,14 @@ from blankcells.errors import NoFull, NoMany, NoParts, NoRules, NoTable
 from blankcells.splits import rejoined, shows_split, small, split
 from blankcells.tables import holds, is_table
 from tests.checks import CallCase
-from tests.samples import ANY_VALUES, SOME_TABLES, WRONG_MANY, WRONG_RULES, WRONG_TABLES, all_rules, small_rule_tuples
-from tests.trying import Walk, all_steps, pairs_behind, rules_hold, small_tables
+from tests.samples import (
+    ANY_VALUES, SOME_TABLES, WRONG_MANY, WRONG_PARTS, WRONG_RULES, WRONG_TABLES, all_parts, all_rules,
+    small_rule_tuples,
+)
+from tests.trying import Walk, all_steps, pairs_behind, rejoined_by_trying, rules_hold, small_tables
 
 RULES = (((0,), 1), ((1,), 2))
 PARTS = ((0, 1), (0, 2))
-
-# (many, what is no parts of many columns)
-WRONG_PARTS = [
-    # the tuple itself
-    (1, ()), (2, ()), (2, ((0, 1),) * 6), (1, ((0,),) * 6), (2, ((0, 1),) * 2000), (2, [(0, 1)]), (2, {0: (0, 1)}),
-    (2, None), (2, 0), (2, "01"), (2, True), (2, (0, 1)), (1, (0,)), (2, []), (2, {}),
-    # not all columns
-    (2, ((0,),)), (2, ((1,),)), (3, ((0, 1),)), (3, ((0, 1), (1,))), (3, ((0, 2), (0,), (2,))), (5, ((0, 1, 2, 3),)),
-    (5, ((1, 2, 3, 4),)), (5, ((0,), (1,), (2,), (3,), (3,))),
-    # an empty part
-    (1, ((),)), (2, ((0, 1), ())), (2, ((), (0, 1))), (1, ((0,), ())), (5, ((0, 1, 2, 3, 4), (), (0,))),
-    # a part that is no set of columns
-    (2, ((1, 0),)), (2, ((0, 0, 1),)), (2, ((0, 1, 1),)), (2, ((0, 1), (0, 0))), (2, ((0, 1, 2),)), (2, ((-1, 0, 1),)),
-    (2, ((0, 1), (2,))), (1, ((0, 1),)), (2, ([0, 1],)), (2, ((0, 1), [0])), (2, ("01",)), (2, ((0, True),)),
-    (2, ((False, 1),)), (2, ((0, 1), (True,))), (1, ((False,),)), (2, ((0, 1), None)), (2, ((0, 1), 0)),
-    (2, (("0", 1),)), (2, ((0, None),)), (2, (((0,), 1),)), (2, ((0, 1), (9999999999999,))), (2, (tuple(range(2000)),)),
-    (2, ((0, 1), NoParts())), (2, ((0, 1), (NoParts(),))), (2, ((0, 1), {0: 0})),
-]
-
-
-def all_parts(many, most):
-    """All parts of many columns, at most that many of them."""
-    columns = [part for size in range(1, many + 1) for part in combinations(range(many), size)]
-    return [
-        parts
-        for amount in range(1, most + 1)
-        for parts in product(columns, repeat=amount)
-        if set().union(*parts) == set(range(many))
-    ]
-
-
-def walked_parts(walk, many):
-    """Some parts of many columns."""
-    while True:
-        parts = []
-        for turn in range(1 + walk.number(5)):
-            part = tuple(column for column in range(many) if walk.number(2))
-            parts.append(part or (walk.number(many),))
-        if set().union(*parts) == set(range(many)):
-            return tuple(parts)
-
-
-def rejoined_by_trying(table, parts):
-    """The rows that can be put together, by trying all rows of the values of each column."""
-    many, rows = table
-    return tuple(
-        row for row in product(*[sorted({row[column] for row in rows}) for column in range(many)])
-        if all(any(all(row[at] == other[at] for at in part) for other in rows) for part in parts)
-    )
 
 
 class RejoinedTest(CallCase):
@@ -116,7 +70,7 @@ class RejoinedTest(CallCase):
         for turn in range(150):
             many = 1 + walk.number(5)
             table = walk.full_table(many, walk.number(9), range(1 + walk.number(4)))
-            parts = walked_parts(walk, many)
+            parts = walk.parts(many)
             self.assertEqual(self.ask(rejoined, table, parts), rejoined_by_trying(table, parts))
 
     def test_no_table_first(self):
@@ -269,7 +223,7 @@ class SplitTest(CallCase):
         words = []
         for turn in range(300):
             many = 3 + walk.number(3)
-            words.append(self.check(many, walk.rules(many, 8), walked_parts(walk, many)))
+            words.append(self.check(many, walk.rules(many, 8), walk.parts(many)))
         self.assertGreater(min(words.count("exact"), words.count("table")), 40)
 
     def test_argument_names(self):

@@ -106,6 +106,15 @@ def all_steps(rules, amount):
     ]
 
 
+def rejoined_by_trying(table, parts):
+    """The rows that can be put together, by trying all rows of the values of each column."""
+    many, rows = table
+    return tuple(
+        row for row in product(*[sorted({row[column] for row in rows}) for column in range(many)])
+        if all(any(all(row[at] == other[at] for at in part) for other in rows) for part in parts)
+    )
+
+
 class Walk:
     """A fixed walk through numbers, which stands for a choice where there are too many cases."""
 
@@ -131,3 +140,12 @@ class Walk:
         for turn in range(most_blanks):
             rows[self.number(amount)][self.number(many)] = None
         return (many, tuple(tuple(row) for row in rows))
+
+    def parts(self, many):
+        while True:
+            parts = []
+            for turn in range(1 + self.number(5)):
+                part = tuple(column for column in range(many) if self.number(2))
+                parts.append(part or (self.number(many),))
+            if set().union(*parts) == set(range(many)):
+                return tuple(parts)
